@@ -1,0 +1,1 @@
+"""Mendfew: signs mended from few others, and how far words lie apart."""

@@ -1,0 +1,29 @@
+"""Each name of the interface stands in the file under which the document lists it."""
+
+import importlib
+import inspect
+import unittest
+
+NAMES = {
+    'errors': [
+        'MendError', 'PaperError', 'BookError', 'LiveError', 'TextError', 'InvalidPaper', 'NotUsable',
+        'InvalidEvent', 'NothingToUndo', 'Broken', 'InvalidText', 'InvalidRow'],
+    'kinds': ['is_integer', 'is_number', 'is_prime'],
+    'bookchecker': ['is_book', 'lets_book', 'is_lot', 'is_word'],
+    'bookparts': ['told_signs', 'told_on', 'keeps', 'base_words', 'base_sums', 'all_words'],
+    'bookchanges': [
+        'renumbered', 'with_sum', 'with_place', 'side_by_side', 'without_place', 'with_nought'],
+    'booktexts': ['book_text', 'lot_text', 'signs_text'],
+}
+
+
+class InterfaceTest(unittest.TestCase):
+    def test_defined_where_listed(self):
+        for file, names in NAMES.items():
+            module = importlib.import_module(f'mendfew.{file}')
+            for name in names:
+                self.assertEqual(getattr(module, name).__module__, f'mendfew.{file}')
+
+    def test_all_words_is_a_generator(self):
+        module = importlib.import_module('mendfew.bookparts')
+        self.assertTrue(inspect.isgeneratorfunction(module.all_words))

@@ -1,0 +1,191 @@
+"""What can be told by reading the files of the package: rules of the subset it is written in."""
+
+import ast
+import builtins
+import re
+import unittest
+import warnings
+from pathlib import Path
+
+FOLDER = Path(__file__).resolve().parent.parent / 'mendfew'
+FILES = sorted(path for path in FOLDER.rglob('*') if '__pycache__' not in path.parts)
+TEXTS = {path.stem: path.read_bytes().decode('ascii') for path in FILES if path.is_file()}
+TREES = {name: ast.parse(text) for name, text in TEXTS.items()}
+
+LIBRARY = {
+    'math': {'gcd', 'lcm', 'isqrt', 'comb', 'perm', 'factorial'},
+    'heapq': {'heappush', 'heappop', 'heapify', 'heapreplace', 'heappushpop'},
+}
+BUILTINS = set(
+    'len range enumerate zip min max sum abs sorted reversed int str bool list tuple dict set isinstance '
+    'ord repr any all divmod ValueError TypeError KeyError NotImplemented iter next super property '
+    'classmethod staticmethod'.split())
+AT_ONCE = {'zip', 'enumerate', 'reversed', 'map', 'iter'}
+STATEMENTS = (
+    ast.Assign, ast.If, ast.While, ast.For, ast.Return, ast.Break, ast.Continue, ast.Pass, ast.Raise,
+    ast.Expr, ast.FunctionDef, ast.ClassDef, ast.ImportFrom)
+BARRED = (
+    'register', 'mro', 'elements', 'open', 'input', 'law', 'version_info', 'with_traceback', 'add_note',
+    'eval', 'exec', 'getattr', 'setattr', 'globals', 'locals', 'vars', 'type', 'typing', 'enum', 'dataclass')
+SPECIAL = set(
+    '__init__ __eq__ __str__ __len__ __call__ __iter__ __add__ __sub__ __and__ __contains__ '
+    '__getitem__'.split())
+
+
+def nodes(kind):
+    for name, tree in TREES.items():
+        for node in ast.walk(tree):
+            if isinstance(node, kind):
+                yield name, node
+
+
+def bound_names(tree):
+    for node in ast.walk(tree):
+        if isinstance(node, (ast.FunctionDef, ast.ClassDef)):
+            yield node.name
+        elif isinstance(node, ast.Name) and isinstance(node.ctx, ast.Store):
+            yield node.id
+        elif isinstance(node, ast.arg):
+            yield node.arg
+        elif isinstance(node, ast.alias):
+            yield node.asname or node.name
+
+
+class LanguageTest(unittest.TestCase):
+    def test_files(self):
+        self.assertLessEqual(len(FILES), 100)
+        self.assertIn('__init__', TEXTS)
+        for path in FILES:
+            self.assertTrue(path.is_file() and re.fullmatch(r'[a-z][a-z0-9_]*|__init__', path.stem), path)
+            self.assertEqual(path.suffix, '.py')
+
+    def test_lines_and_characters(self):
+        for name, text in TEXTS.items():
+            self.assertIsNone(re.search(r'[^ -~\n]', text), name)
+            self.assertLessEqual(len(text.splitlines()), 399, name)
+            self.assertLessEqual(max(map(len, text.splitlines())), 120, name)
+
+    def test_no_warnings(self):
+        with warnings.catch_warnings():
+            warnings.simplefilter('error')
+            for name, text in TEXTS.items():
+                compile(text, name, 'exec')
+
+    def test_functions_are_short(self):
+        for name, node in nodes(ast.FunctionDef):
+            self.assertLessEqual(node.end_lineno - node.lineno + 1, 40, (name, node.name))
+
+    def test_everything_tells_what_it_is(self):
+        for name, node in nodes((ast.Module, ast.ClassDef, ast.FunctionDef)):
+            if getattr(node, 'name', '') not in SPECIAL:
+                self.assertTrue(ast.get_docstring(node), (name, getattr(node, 'name', '')))
+
+    def test_module_level(self):
+        for name, tree in TREES.items():
+            for node in tree.body:
+                self.assertIsInstance(
+                    node, (ast.Expr, ast.ImportFrom, ast.FunctionDef, ast.ClassDef, ast.Assign), name)
+                if isinstance(node, ast.Expr):
+                    self.assertIs(node, tree.body[0], name)
+            told = [node.asname or node.name for part in tree.body if isinstance(part, ast.ImportFrom)
+                    for node in part.names]
+            told += [part.name for part in tree.body if isinstance(part, (ast.FunctionDef, ast.ClassDef))]
+            self.assertEqual(len(told), len(set(told)), name)
+
+    def test_imports(self):
+        above = {name: set() for name in TREES}
+        for name, node in nodes((ast.Import, ast.ImportFrom)):
+            self.assertIsInstance(node, ast.ImportFrom, name)
+            self.assertEqual(node.level, 0)
+            names = {part.name for part in node.names}
+            self.assertEqual({part.asname for part in node.names}, {None})
+            if node.module in LIBRARY:
+                self.assertLessEqual(names, LIBRARY[node.module], name)
+                continue
+            package, file = node.module.split('.')
+            self.assertEqual(package, 'mendfew')
+            own = {part.name for part in TREES[file].body if isinstance(part, (ast.FunctionDef, ast.ClassDef))}
+            own |= {part.targets[0].id for part in TREES[file].body if isinstance(part, ast.Assign)}
+            self.assertLessEqual(names, own, (name, file))
+            above[name].add(file)
+        while above:
+            free = [name for name in above if not above[name]]
+            self.assertTrue(free, ('imports go round', above))
+            above = {name: files - set(free) for name, files in above.items() if name not in free}
+
+    def test_imports_are_used(self):
+        for name, tree in TREES.items():
+            read = {node.id for node in ast.walk(tree) if isinstance(node, ast.Name)}
+            told = {part.name for node in tree.body if isinstance(node, ast.ImportFrom) for part in node.names}
+            self.assertLessEqual(told, read, name)
+
+    def test_statements(self):
+        for name, node in nodes(ast.stmt):
+            self.assertIsInstance(node, STATEMENTS, (name, node.lineno))
+            if isinstance(node, ast.Expr):
+                self.assertIsInstance(node.value, (ast.Call, ast.Yield, ast.Constant), (name, node.lineno))
+
+    def test_expressions(self):
+        barred = (ast.Div, ast.GeneratorExp, ast.SetComp, ast.Lambda, ast.Await,
+                  ast.NamedExpr, ast.MatMult)
+        for name, node in nodes(ast.AST):
+            self.assertNotIsInstance(node, barred, (name, getattr(node, 'lineno', 0)))
+        for name, node in nodes(ast.Constant):
+            self.assertNotIsInstance(node.value, (float, complex, bytes), name)
+            if isinstance(node.value, str):
+                self.assertNotIn('%', node.value, name)
+        for name, node in nodes(ast.BinOp):
+            if isinstance(node.op, ast.Pow):
+                self.assertIsInstance(node.right, ast.Constant, (name, node.lineno))
+
+    def test_kept_at_once(self):
+        for name, node in nodes((ast.Assign, ast.Return)):
+            value = node.value
+            if isinstance(value, ast.Call) and isinstance(value.func, ast.Name):
+                if isinstance(node, ast.Return) and value.func.id == 'iter':
+                    continue
+                self.assertNotIn(value.func.id, AT_ONCE, (name, node.lineno))
+
+    def test_builtins(self):
+        theirs = set(dir(builtins))
+        for name, tree in TREES.items():
+            for node in ast.walk(tree):
+                if isinstance(node, ast.Name) and node.id in theirs:
+                    self.assertIn(node.id, BUILTINS, (name, node.lineno))
+            top = [node.name for node in tree.body if isinstance(node, ast.ClassDef)]
+            methods = {part.name for node in tree.body if isinstance(node, ast.ClassDef)
+                       for part in node.body if isinstance(part, ast.FunctionDef)}
+            for told in set(bound_names(tree)) - methods - set(top):
+                self.assertNotIn(told, theirs, name)
+
+    def test_names(self):
+        for name, tree in TREES.items():
+            for told in bound_names(tree):
+                self.assertNotIn(told, BARRED, name)
+                if told not in SPECIAL and told != '_':
+                    self.assertRegex(told, r'\A_?[A-Za-z][A-Za-z0-9_]*\Z', name)
+            for node in ast.walk(tree):
+                if isinstance(node, ast.Name) and node.id == '_':
+                    self.assertIsInstance(node.ctx, ast.Store, (name, node.lineno))
+                if isinstance(node, ast.Attribute):
+                    self.assertNotIn(node.attr, BARRED, name)
+
+    def test_locals_are_no_imports(self):
+        for name, tree in TREES.items():
+            told = {part.name for node in tree.body if isinstance(node, ast.ImportFrom) for part in node.names}
+            told |= {node.name for node in tree.body if isinstance(node, ast.ClassDef)}
+            for node in ast.walk(tree):
+                if isinstance(node, ast.Name) and isinstance(node.ctx, ast.Store):
+                    self.assertNotIn(node.id, told, (name, node.lineno))
+                if isinstance(node, ast.arg):
+                    self.assertNotIn(node.arg, told, (name, node.lineno))
+
+    def test_raises(self):
+        for name, node in nodes(ast.Raise):
+            self.assertIsInstance(node.exc, ast.Call, name)
+            self.assertRegex(node.exc.func.id, r'\A[A-Z]', name)
+
+    def test_barred_words(self):
+        for name, text in TEXTS.items():
+            self.assertNotIn('_wall', text.lower(), name)
+            self.assertIsNone(re.search(r'\(type\)|Meta|metaclass=', text), name)

@@ -1,0 +1,106 @@
+"""Each function with its parameters in turn, by name, wrong, and two wrong ones at once."""
+
+import inspect
+import unittest
+from copy import deepcopy
+from itertools import combinations
+
+from helpers import EVEN, FREE, NOT_BOOKS, ODD, PAIRS, Raising
+from mendfew import bookchanges, bookchecker, bookparts, booktexts, kinds
+
+#: for each function of the interface, arguments by name, in their order, that it accepts
+CALLS = [
+    (kinds.is_integer, {'thing': 1}),
+    (kinds.is_number, {'thing': 1}),
+    (kinds.is_prime, {'thing': 2}),
+    (bookchecker.is_book, {'thing': EVEN}),
+    (bookchecker.lets_book, {'thing': EVEN}),
+    (bookchecker.is_lot, {'book': EVEN, 'thing': (0, 2)}),
+    (bookchecker.is_word, {'book': EVEN, 'thing': (1, 1, 1)}),
+    (bookparts.told_signs, {'book': EVEN}),
+    (bookparts.told_on, {'book': EVEN, 'lot': (0, 1)}),
+    (bookparts.keeps, {'book': EVEN, 'numbers': (2, 2, 2)}),
+    (bookparts.base_words, {'book': EVEN}),
+    (bookparts.base_sums, {'book': EVEN}),
+    (bookparts.all_words, {'book': EVEN}),
+    (bookchanges.renumbered, {'book': EVEN, 'places': (2, 0, 1)}),
+    (bookchanges.with_sum, {'book': EVEN, 'numbers': (0, 1, 2)}),
+    (bookchanges.with_place, {'book': EVEN, 'numbers': (0, 1, 2)}),
+    (bookchanges.side_by_side, {'one': PAIRS, 'other': FREE}),
+    (bookchanges.without_place, {'book': EVEN, 'place': 2}),
+    (bookchanges.with_nought, {'book': EVEN, 'place': 2}),
+    (booktexts.book_text, {'book': EVEN}),
+    (booktexts.lot_text, {'book': EVEN, 'lot': (0, 1)}),
+    (booktexts.signs_text, {'book': EVEN, 'signs': (0, 1, 2)}),
+]
+
+BOOK_NAMES = ('book', 'one', 'other')
+
+#: what more than ODD is wrong for a parameter of this name, for the books above
+WRONG = {
+    'lot': [0, 1, (1, 0), (0, 0), (0, 1, 2, 3), (0, 3), [0, 1], (0, True), (False, 1)],
+    'numbers': [0, (), (1, 1), (1, 1, 1, 1), (0, 1, 3), [1, 1, 1], (0, True, 2), (0, False, 2)],
+    'places': [0, (), (0, 1), (0, 1, 2, 3), (0, 1, 1), (1, 2, 3), [0, 1, 2], (0, True, 2)],
+    'place': [3, 4, (0,), '0', 0.5],
+    'signs': [0, (), (1, 1), (1, 1, 1, 1), (0, 1, 3), (1, 1, 0), [0, 1, 2], (0, True, 2)],
+}
+
+
+def wrong_for(name):
+    if name in BOOK_NAMES:
+        return NOT_BOOKS
+    return ODD + WRONG[name]
+
+
+def judged(name):
+    return name == 'thing'
+
+
+def result(function, *args, **more):
+    told = function(*args, **more)
+    return list(told) if inspect.isgenerator(told) else told
+
+
+class ParametersTest(Raising, unittest.TestCase):
+    def test_names_and_order(self):
+        for function, good in CALLS:
+            self.assertEqual(list(inspect.signature(function).parameters), list(good))
+
+    def test_by_position_and_by_name(self):
+        for function, good in CALLS:
+            told = result(function, *good.values())
+            self.same(result(function, **good), told)
+            self.same(result(function, **dict(reversed(list(good.items())))), told)
+
+    def test_each_wrong_one_is_named(self):
+        for function, good in CALLS:
+            for name in good:
+                if judged(name):
+                    continue
+                for value in wrong_for(name):
+                    before = deepcopy(value)
+                    self.not_usable(name, result, function, **{**good, name: value})
+                    self.assertEqual(value, before)
+
+    def test_first_of_two_wrong_ones_is_named(self):
+        for function, good in CALLS:
+            for first, second in combinations(good, 2):
+                if judged(first):
+                    continue
+                late = ODD if judged(second) else wrong_for(second)
+                for value, more in zip(wrong_for(first), late):
+                    self.not_usable(first, result, function, **{**good, first: value, second: more})
+
+    def test_things_are_judged(self):
+        for function, good in CALLS:
+            if 'thing' in good and function is not bookchecker.lets_book:
+                for value in NOT_BOOKS:
+                    before = deepcopy(value)
+                    self.assertIs(type(function(**{**good, 'thing': value})), bool)
+                    self.assertEqual(value, before)
+
+    def test_handed_in_stays(self):
+        for function, good in CALLS:
+            before = deepcopy(good)
+            result(function, **good)
+            self.same(list(good.values()), list(before.values()))
