@@ -1,7 +1,7 @@
 """What makes a value a book, or a place, a lot, a sum or a word of a book that is known to be one."""
 
 from mendfew.kinds import is_integer, is_number, is_prime
-from mendfew.rows import total_of
+from mendfew.rows import cleared, reduced_rows, total_of
 
 MOST_PLACES = 100
 
@@ -53,6 +53,17 @@ def is_sum_like(book, thing):
     """Whether any value is a sum for the size and the prime of the book."""
     prime, size, _ = book
     return is_numbers(thing, size, prime) and any(thing)
+
+
+def is_kept(book, numbers):
+    """Whether all words of the book keep a sum for its size and its prime."""
+    prime, _, sums = book
+    return not any(cleared(prime, numbers, reduced_rows(prime, sums)))
+
+
+def is_sum_of(book, thing):
+    """Whether any value is a sum of the book."""
+    return is_sum_like(book, thing) and is_kept(book, thing)
 
 
 def is_word_of(book, thing):

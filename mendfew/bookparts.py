@@ -1,6 +1,7 @@
 """What a book tells, its base words and base sums, and all its words."""
 
-from mendfew.rows import bound_rows, cleared, cut_to, plus_scaled, reduced_rows
+from mendfew.bookforms import is_kept
+from mendfew.rows import bound_rows, cut_to, plus_scaled, reduced_rows
 from mendfew.usable import want_book, want_lot, want_sum
 
 
@@ -24,8 +25,7 @@ def keeps(book, numbers):
     """Whether all words of the book keep this sum."""
     want_book(book, "book")
     want_sum(book, numbers)
-    prime, _, sums = book
-    return not any(cleared(prime, numbers, reduced_rows(prime, sums)))
+    return is_kept(book, numbers)
 
 
 def base_words(book):

@@ -106,6 +106,16 @@ def random_book(chance, prime, size, many):
     return (prime, size, tuple(sums))
 
 
+def by_powers(prime, size, told):
+    """The book whose words are the sums of the powers 0 to told - 1 of the numbers below size.
+
+    Each place is told by any told others, and by no fewer.
+    """
+    from mendfew.bookparts import base_words
+    rows = tuple(tuple(number ** power % prime for number in range(size)) for power in range(told))
+    return (prime, size, base_words((prime, size, rows)))
+
+
 def small_books(most_words=700, each=3, seed=5):
     """Books of which all tuples of signs can be gone through; the same ones each time."""
     chance = Random(seed)

@@ -1,12 +1,12 @@
 import unittest
 from itertools import combinations, islice, product
+from random import Random
 
 from helpers import (
     ALONE, EVEN, FREE, PAIRS, Raising, cut, places, random_book, small_books, spanned, sums_by_all,
     told_by_count, total, words_by_all)
 from mendfew.bookchecker import is_word
 from mendfew.bookparts import all_words, base_sums, base_words, keeps, told_on, told_signs
-from random import Random
 
 LARGE = [
     (999983, 100, ((999982,) * 100, (1,) * 100, tuple(range(100)))),

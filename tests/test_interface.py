@@ -14,6 +14,13 @@ NAMES = {
     'bookchanges': [
         'renumbered', 'with_sum', 'with_place', 'side_by_side', 'without_place', 'with_nought'],
     'booktexts': ['book_text', 'lot_text', 'signs_text'],
+    'bookreadings': ['book_read', 'lot_read', 'signs_read'],
+    'bookclasses': ['Book', 'Repeated'],
+    'fewness': ['fewest_of', 'few_of', 'sums_of', 'groups_of', 'sign_by'],
+    'apartness': ['apart_of', 'near_words', 'near_lots', 'weights_of', 'signs_within', 'differ_at'],
+    'likeness': [
+        'same_words', 'reduced', 'renumbering_to', 'renumberings_of', 'like_places', 'plain_book'],
+    'fewpapers': ['few_paper'],
 }
 
 

@@ -20,7 +20,8 @@ BUILTINS = set(
     'len range enumerate zip min max sum abs sorted reversed int str bool list tuple dict set isinstance '
     'ord repr any all divmod ValueError TypeError KeyError NotImplemented iter next super property '
     'classmethod staticmethod'.split())
-AT_ONCE = {'zip', 'enumerate', 'reversed', 'map', 'iter'}
+AT_ONCE = ('zip', 'enumerate', 'reversed', 'range', 'map')
+TAKERS = ('list', 'tuple', 'dict', 'sorted', 'sum', 'min', 'max', 'any', 'all')
 STATEMENTS = (
     ast.Assign, ast.If, ast.While, ast.For, ast.Return, ast.Break, ast.Continue, ast.Pass, ast.Raise,
     ast.Expr, ast.FunctionDef, ast.ClassDef, ast.ImportFrom)
@@ -37,6 +38,20 @@ def nodes(kind):
         for node in ast.walk(tree):
             if isinstance(node, kind):
                 yield name, node
+
+
+def with_parents():
+    for name, tree in TREES.items():
+        for above in ast.walk(tree):
+            for node in ast.iter_child_nodes(above):
+                yield name, node, above
+
+
+def called(node):
+    """The name that is called, None if the node is no such call."""
+    if isinstance(node, ast.Call) and isinstance(node.func, ast.Name):
+        return node.func.id
+    return None
 
 
 def bound_names(tree):
@@ -126,8 +141,7 @@ class LanguageTest(unittest.TestCase):
                 self.assertIsInstance(node.value, (ast.Call, ast.Yield, ast.Constant), (name, node.lineno))
 
     def test_expressions(self):
-        barred = (ast.Div, ast.GeneratorExp, ast.SetComp, ast.Lambda, ast.Await,
-                  ast.NamedExpr, ast.MatMult)
+        barred = (ast.Div, ast.GeneratorExp, ast.Lambda, ast.Await, ast.NamedExpr, ast.MatMult)
         for name, node in nodes(ast.AST):
             self.assertNotIsInstance(node, barred, (name, getattr(node, 'lineno', 0)))
         for name, node in nodes(ast.Constant):
@@ -138,13 +152,21 @@ class LanguageTest(unittest.TestCase):
             if isinstance(node.op, ast.Pow):
                 self.assertIsInstance(node.right, ast.Constant, (name, node.lineno))
 
-    def test_kept_at_once(self):
-        for name, node in nodes((ast.Assign, ast.Return)):
-            value = node.value
-            if isinstance(value, ast.Call) and isinstance(value.func, ast.Name):
-                if isinstance(node, ast.Return) and value.func.id == 'iter':
-                    continue
-                self.assertNotIn(value.func.id, AT_ONCE, (name, node.lineno))
+    def test_iterated_at_once(self):
+        for name, node, above in with_parents():
+            if called(node) in AT_ONCE:
+                if isinstance(above, (ast.For, ast.comprehension)):
+                    self.assertIs(node, above.iter, (name, node.lineno))
+                else:
+                    self.assertIn(called(above), TAKERS, (name, node.lineno))
+            if called(node) == 'iter':
+                self.assertIsInstance(above, ast.Return, (name, node.lineno))
+
+    def test_sets_are_sorted_or_counted_on_the_spot(self):
+        for name, node, above in with_parents():
+            if isinstance(node, (ast.SetComp, ast.Set)) or called(node) == 'set':
+                self.assertIn(called(above), ('sorted', 'len'), (name, node.lineno))
+                self.assertEqual(above.keywords, [], (name, node.lineno))
 
     def test_builtins(self):
         theirs = set(dir(builtins))

@@ -5,8 +5,10 @@ import unittest
 from copy import deepcopy
 from itertools import combinations
 
-from helpers import EVEN, FREE, NOT_BOOKS, ODD, PAIRS, Raising
-from mendfew import bookchanges, bookchecker, bookparts, booktexts, kinds
+from helpers import EVEN, FREE, LATE, NOT_BOOKS, ODD, PAIRS, Raising
+from mendfew import (
+    apartness, bookchanges, bookchecker, bookparts, bookreadings, booktexts, fewness, fewpapers, kinds,
+    likeness)
 
 #: for each function of the interface, arguments by name, in their order, that it accepts
 CALLS = [
@@ -32,6 +34,27 @@ CALLS = [
     (booktexts.book_text, {'book': EVEN}),
     (booktexts.lot_text, {'book': EVEN, 'lot': (0, 1)}),
     (booktexts.signs_text, {'book': EVEN, 'signs': (0, 1, 2)}),
+    (bookreadings.book_read, {'text': 'book 3 3\nsum 1 1 1'}),
+    (bookreadings.lot_read, {'book': EVEN, 'text': '0 2'}),
+    (bookreadings.signs_read, {'book': EVEN, 'text': '0 1 2'}),
+    (fewness.fewest_of, {'book': EVEN, 'place': 1}),
+    (fewness.few_of, {'book': EVEN}),
+    (fewness.sums_of, {'book': EVEN, 'place': 1}),
+    (fewness.groups_of, {'book': EVEN, 'place': 1}),
+    (fewness.sign_by, {'book': EVEN, 'numbers': (2, 2, 2), 'place': 1, 'others': (0, 1)}),
+    (apartness.apart_of, {'book': EVEN}),
+    (apartness.near_words, {'book': EVEN}),
+    (apartness.near_lots, {'book': EVEN}),
+    (apartness.weights_of, {'book': EVEN}),
+    (apartness.signs_within, {'book': EVEN, 'lot': (0, 1)}),
+    (apartness.differ_at, {'book': EVEN, 'signs': (0, 1, 2), 'late': (1, 1, 1)}),
+    (likeness.same_words, {'one': PAIRS, 'other': FREE}),
+    (likeness.reduced, {'book': EVEN}),
+    (likeness.renumbering_to, {'one': PAIRS, 'other': LATE}),
+    (likeness.renumberings_of, {'book': EVEN}),
+    (likeness.like_places, {'book': EVEN}),
+    (likeness.plain_book, {'book': EVEN}),
+    (fewpapers.few_paper, {'book': EVEN, 'place': 1}),
 ]
 
 BOOK_NAMES = ('book', 'one', 'other')
@@ -41,14 +64,18 @@ WRONG = {
     'lot': [0, 1, (1, 0), (0, 0), (0, 1, 2, 3), (0, 3), [0, 1], (0, True), (False, 1)],
     'numbers': [0, (), (1, 1), (1, 1, 1, 1), (0, 1, 3), [1, 1, 1], (0, True, 2), (0, False, 2)],
     'places': [0, (), (0, 1), (0, 1, 2, 3), (0, 1, 1), (1, 2, 3), [0, 1, 2], (0, True, 2)],
-    'place': [3, 4, (0,), '0', 0.5],
+    'place': [3, 4, (0,), '0'],
     'signs': [0, (), (1, 1), (1, 1, 1, 1), (0, 1, 3), (1, 1, 0), [0, 1, 2], (0, True, 2)],
+    'late': [0, (), (1, 1), (1, 1, 1, 1), (0, 1, 3), (1, 1, 0), [0, 1, 2], (0, True, 2)],
+    'others': [0, (), (1,), (1, 1, 1), (0, 3), [0, 1], (0, True), (False, 1)],
 }
 
 
 def wrong_for(name):
     if name in BOOK_NAMES:
         return NOT_BOOKS
+    if name == 'text':
+        return [value for value in ODD if not isinstance(value, str)] + [0, 1, (), ('0',)]
     return ODD + WRONG[name]
 
 
