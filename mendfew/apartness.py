@@ -55,7 +55,12 @@ def differ_at(book, signs, late):
     want_book(book, "book")
     want_word(book, signs, "signs")
     want_word(book, late, "late")
-    return tuple([place for place in range(book[1]) if signs[place] != late[place]])
+    return differing_places(signs, late)
+
+
+def differing_places(one, other):
+    """The places at which two rows of as many numbers differ."""
+    return tuple([place for place, number in enumerate(one) if number != other[place]])
 
 
 def nearest_words(book):

@@ -66,6 +66,32 @@ def is_sum_of(book, thing):
     return is_sum_like(book, thing) and is_kept(book, thing)
 
 
+def is_sums_of(book, thing):
+    """Whether any value is a tuple of sums of the book."""
+    if not isinstance(thing, tuple):
+        return False
+    prime, _, sums = book
+    base = reduced_rows(prime, sums)
+    return all([
+        is_sum_like(book, numbers) and not any(cleared(prime, numbers, base)) for numbers in thing
+    ])
+
+
+def is_costs_of(book, thing):
+    """Whether any value is a tuple with a number for each place of the book, or None."""
+    if thing is None:
+        return True
+    return isinstance(thing, tuple) and len(thing) == book[1] and all([is_number(cost) for cost in thing])
+
+
+def is_signs_like(book, thing):
+    """Whether any value is a tuple with a number below the prime of the book, or None, for each place."""
+    prime, size, _ = book
+    if not isinstance(thing, tuple) or len(thing) != size:
+        return False
+    return all([sign is None or (is_number(sign) and sign < prime) for sign in thing])
+
+
 def is_word_of(book, thing):
     """Whether any value is a word of the book."""
     prime, size, sums = book

@@ -1,7 +1,7 @@
 """What a book tells, its base words and base sums, and all its words."""
 
 from mendfew.bookforms import is_kept
-from mendfew.rows import bound_rows, cut_to, plus_scaled, reduced_rows
+from mendfew.rows import bound_rows, plus_scaled, rank_on, reduced_rows
 from mendfew.usable import want_book, want_lot, want_sum
 
 
@@ -17,8 +17,7 @@ def told_on(book, lot):
     want_book(book, "book")
     want_lot(book, lot)
     prime, size, sums = book
-    words = bound_rows(prime, size, sums)
-    return len(reduced_rows(prime, [cut_to(word, lot) for word in words]))
+    return rank_on(prime, bound_rows(prime, size, sums), lot)
 
 
 def keeps(book, numbers):

@@ -17,6 +17,21 @@ def lots_of(places, many):
     return lots
 
 
+def first_meeting(places, many, lots):
+    """The first tuple, as Python sorts, of so many of the ascending places that has one of each lot.
+
+    None if no such tuple has.
+    """
+    if many == 0:
+        return () if len(lots) == 0 else None
+    for at in range(len(places) - many + 1):
+        left = [lot for lot in lots if places[at] not in lot]
+        rest = first_meeting(places[at + 1:], many - 1, left)
+        if rest is not None:
+            return (places[at], *rest)
+    return None
+
+
 def orders_of(places):
     """The list of all tuples that have each of the ascending places once, as Python sorts."""
     orders = [()]

@@ -108,6 +108,22 @@ def reduced_rows(prime, rows):
     return tuple(sorted(done, reverse=True))
 
 
+def rank_on(prime, rows, lot):
+    """How many rows there are when what the rows have at the places of the lot is reduced."""
+    return len(reduced_rows(prime, [cut_to(row, lot) for row in rows]))
+
+
+def cleared_at(prime, rows, place):
+    """The sums of multiples of the rows that have 0 at the place, told by one row less.
+
+    The rows are not bound to each other, and one of them is not 0 at the place.
+    """
+    first = [row for row in rows if row[place] != 0][0]
+    times = inverse_of(first[place], prime)
+    rest = [plus_scaled(prime, row, -times * row[place], first) for row in rows]
+    return [row for row in rest if any(row)]
+
+
 def bound_rows(prime, size, rows):
     """The reduced rows, of this size, of all with which each of the rows comes to 0."""
     # Reduced from behind, each row tells its last place by earlier ones that are free,

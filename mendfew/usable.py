@@ -1,6 +1,7 @@
 """Refusals of parameters that are not as stated."""
 
-from mendfew.bookforms import book_fault, is_lot_of, is_place_of, is_sum_like, is_word_of
+from mendfew.bookforms import (
+    book_fault, is_costs_of, is_lot_of, is_place_of, is_sum_like, is_sums_of, is_word_of)
 from mendfew.errors import NotUsable
 
 
@@ -23,6 +24,21 @@ def want_place(book, thing):
 def want_lot(book, thing):
     """Raises it unless the value is a lot of the book."""
     want(is_lot_of(book, thing), "lot")
+
+
+def want_lost(book, thing):
+    """Raises it unless the value is a lot of the book."""
+    want(is_lot_of(book, thing), "lost")
+
+
+def want_costs(book, thing):
+    """Raises it unless the value tells what reading each place of the book costs, or is None."""
+    want(is_costs_of(book, thing), "costs")
+
+
+def want_sums(book, thing):
+    """Raises it unless the value is a tuple of sums of the book."""
+    want(is_sums_of(book, thing), "sums")
 
 
 def want_sum(book, thing):

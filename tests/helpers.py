@@ -1,6 +1,6 @@
 """Books, values and slow ways of counting that the tests share."""
 
-from itertools import product
+from itertools import combinations, product
 from random import Random
 
 EVEN = (3, 3, ((1, 1, 1),))
@@ -114,6 +114,23 @@ def by_powers(prime, size, told):
     from mendfew.bookparts import base_words
     rows = tuple(tuple(number ** power % prime for number in range(size)) for power in range(told))
     return (prime, size, base_words((prime, size, rows)))
+
+
+def all_books(prime, size):
+    """Books of this prime and size with all words that there can be, each with few sums."""
+    ones = [row for row in product(range(prime), repeat=size) if any(row) and row[places(row)[0]] == 1]
+    return [(prime, size, sums) for many in range(size + 1) for sums in combinations(ones, many)]
+
+
+def few_places():
+    """All books of a few places."""
+    kinds = ((2, 1), (2, 2), (2, 3), (3, 1), (3, 2), (5, 2), (13, 1))
+    return [book for prime, size in kinds for book in all_books(prime, size)]
+
+
+def all_lots(size):
+    """All lots of the places below size."""
+    return [lot for many in range(size + 1) for lot in combinations(range(size), many)]
 
 
 def small_books(most_words=700, each=3, seed=5):

@@ -21,6 +21,18 @@ NAMES = {
     'likeness': [
         'same_words', 'reduced', 'renumbering_to', 'renumberings_of', 'like_places', 'plain_book'],
     'fewpapers': ['few_paper'],
+    'fewchecker': ['lets_few'],
+    'apartpapers': ['apart_paper'],
+    'apartchecker': ['lets_apart'],
+    'losses': ['told_back', 'is_mended'],
+    'losspapers': ['loss_paper'],
+    'losschecker': ['lets_loss'],
+    'mending': ['filled'],
+    'readings': ['reads_for', 'least_cost', 'reads_for_all', 'cost_for_all'],
+    'goings': ['goings', 'left_by', 'is_mended_by', 'stuck_lots'],
+    'mendclasses': ['Loss', 'Burst'],
+    'price': ['price_of', 'few_lot', 'is_best'],
+    'lotpapers': ['lot_paper'],
 }
 
 

@@ -7,8 +7,10 @@ from itertools import combinations
 
 from helpers import EVEN, FREE, LATE, NOT_BOOKS, ODD, PAIRS, Raising
 from mendfew import (
-    apartness, bookchanges, bookchecker, bookparts, bookreadings, booktexts, fewness, fewpapers, kinds,
-    likeness)
+    apartchecker, apartness, apartpapers, bookchanges, bookchecker, bookparts, bookreadings, booktexts,
+    fewchecker, fewness, fewpapers, goings, kinds, likeness, losschecker, losses, losspapers, lotpapers,
+    mending, price, readings)
+from mendfew.errors import InvalidPaper
 
 #: for each function of the interface, arguments by name, in their order, that it accepts
 CALLS = [
@@ -55,7 +57,31 @@ CALLS = [
     (likeness.like_places, {'book': EVEN}),
     (likeness.plain_book, {'book': EVEN}),
     (fewpapers.few_paper, {'book': EVEN, 'place': 1}),
+    (fewchecker.lets_few, {'book': EVEN, 'place': 0, 'thing': ('few', (1, 1, 1), ((1, 0, 2), (1, 2, 0)))}),
+    (apartpapers.apart_paper, {'book': EVEN}),
+    (apartchecker.lets_apart, {
+        'book': EVEN, 'thing': ('pair', (0, 0, 0), (1, 2, 0), ((0, 1), (0, 2), (1, 2)))}),
+    (losses.told_back, {'book': EVEN, 'lost': (0, 1)}),
+    (losses.is_mended, {'book': EVEN, 'lost': (1,)}),
+    (losspapers.loss_paper, {'book': EVEN, 'lost': (0, 1)}),
+    (losschecker.lets_loss, {'book': EVEN, 'lost': (1,), 'thing': (('told', (2, 2, 2)),)}),
+    (mending.filled, {'book': EVEN, 'signs': (1, None, 1)}),
+    (readings.reads_for, {'book': EVEN, 'place': 1, 'lost': (1,), 'costs': (0, 1, 10 ** 20)}),
+    (readings.least_cost, {'book': EVEN, 'place': 1, 'lost': (1,), 'costs': (0, 1, 10 ** 20)}),
+    (readings.reads_for_all, {'book': EVEN, 'lost': (1,), 'costs': (0, 1, 10 ** 20)}),
+    (readings.cost_for_all, {'book': EVEN, 'lost': (1,), 'costs': (0, 1, 10 ** 20)}),
+    (goings.goings, {'book': EVEN, 'sums': ((2, 2, 2),), 'lost': (1,)}),
+    (goings.left_by, {'book': EVEN, 'sums': ((2, 2, 2),), 'lost': (0, 1)}),
+    (goings.is_mended_by, {'book': EVEN, 'sums': ((2, 2, 2),), 'lost': (1,)}),
+    (goings.stuck_lots, {'book': EVEN, 'sums': ((2, 2, 2),)}),
+    (price.price_of, {'book': EVEN}),
+    (price.few_lot, {'book': EVEN}),
+    (price.is_best, {'book': EVEN}),
+    (lotpapers.lot_paper, {'book': EVEN}),
 ]
+
+#: those that return for each value whether it is one; the other ones raise InvalidPaper
+JUDGES = [function for function, good in CALLS if 'thing' in good and function.__name__.startswith('is_')]
 
 BOOK_NAMES = ('book', 'one', 'other')
 
@@ -67,6 +93,9 @@ WRONG = {
     'place': [3, 4, (0,), '0'],
     'signs': [0, (), (1, 1), (1, 1, 1, 1), (0, 1, 3), (1, 1, 0), [0, 1, 2], (0, True, 2)],
     'late': [0, (), (1, 1), (1, 1, 1, 1), (0, 1, 3), (1, 1, 0), [0, 1, 2], (0, True, 2)],
+    'lost': [0, 1, (1, 0), (0, 0), (0, 1, 2, 3), (0, 3), [0, 1], (0, True), (False, 1)],
+    'sums': [0, (0,), (1, 1, 1), [(1, 1, 1)], ([1, 1, 1],), ((1, 1),), ((0, 0, 0),), ((1, 1, True),)],
+    'costs': [0, (), (1, 1), (1, 1, 1, 1), [1, 1, 1], (1, None, 1), (1, 1, -1), (1, True, 1), (1, 1, False)],
     'others': [0, (), (1,), (1, 1, 1), (0, 3), [0, 1], (0, True), (False, 1)],
 }
 
@@ -76,7 +105,8 @@ def wrong_for(name):
         return NOT_BOOKS
     if name == 'text':
         return [value for value in ODD if not isinstance(value, str)] + [0, 1, (), ('0',)]
-    return ODD + WRONG[name]
+    # None, for the costs, is 1 for each.
+    return [value for value in ODD if value is not None or name != 'costs'] + WRONG[name]
 
 
 def judged(name):
@@ -120,10 +150,14 @@ class ParametersTest(Raising, unittest.TestCase):
 
     def test_things_are_judged(self):
         for function, good in CALLS:
-            if 'thing' in good and function is not bookchecker.lets_book:
+            if 'thing' in good:
                 for value in NOT_BOOKS:
                     before = deepcopy(value)
-                    self.assertIs(type(function(**{**good, 'thing': value})), bool)
+                    if function in JUDGES:
+                        self.assertIs(type(function(**{**good, 'thing': value})), bool)
+                    else:
+                        with self.assertRaises(InvalidPaper):
+                            function(**{**good, 'thing': value})
                     self.assertEqual(value, before)
 
     def test_handed_in_stays(self):
