@@ -3,7 +3,7 @@
 from mendfew.bookforms import is_signs_like
 from mendfew.losses import back_of
 from mendfew.lots import other_places
-from mendfew.rows import bound_rows, cleared, cut_to, first_place, reduced_rows, scaled
+from mendfew.rows import bound_rows, cleared, cut_to, reduced_rows, scaled
 from mendfew.usable import want, want_book
 
 
@@ -28,10 +28,9 @@ def word_with(book, signs, kept):
     prime, size, sums = book
     many = len(kept)
     # Each row is what a word has at the kept places, and then the word: what is taken off
-    # the kept signs ahead, to make them 0, stands behind.
+    # the kept signs, to make them 0, stands behind them.
     rows = reduced_rows(prime, [cut_to(word, kept) + word for word in bound_rows(prime, size, sums)])
-    ahead = [row for row in rows if first_place(row) < many]
-    rest = cleared(prime, cut_to(signs, kept) + (0,) * size, ahead)
+    rest = cleared(prime, cut_to(signs, kept) + (0,) * size, rows)
     if any(rest[:many]):
         return None
     return scaled(prime, -1, rest[many:])
