@@ -18,7 +18,7 @@ def lets_loss(book, lost, thing):
             check_told(book, lost, at, entry[1])
         else:
             check_alike(book, lost, at, entry[1:])
-    return tuple([place for place, entry in zip(lost, thing) if entry[0] == "told"])
+    return tuple([place for place, part in zip(lost, thing) if part[0] == "told"])
 
 
 def check_told(book, lost, at, numbers):

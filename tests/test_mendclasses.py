@@ -204,6 +204,22 @@ class LossTest(Raising, unittest.TestCase):
         self.assertEqual(Burst.__bases__, (Loss,))
 
 
+    def test_handed_in_stays(self):
+        handed = [PAIRS, (0, 2), (None, 1, None, 0), (1, 1, 1, 9), PAIRS[2], [0, 1], [1, None, 1], ([1, 1, 0, 0],)]
+        before = deepcopy(handed)
+        book, lost, signs, costs, sums, places, late, rows = handed
+        one = Loss(book, lost)
+        one(signs), one.reads_for(0, costs), one.goings(sums), one + 1, one - 0, one[0], one == places
+        self.not_usable('lost', Loss, book, places)
+        self.not_usable('signs', one, late)
+        self.not_usable('costs', one.reads_for, 0, places)
+        self.not_usable('sums', one.goings, rows)
+        self.not_usable('place', lambda: one[places])
+        self.not_usable('place', lambda: one + places)
+        self.assertIs(places in one, False)
+        self.same(handed, before)
+
+
 class BurstTest(Raising, unittest.TestCase):
     def test_places(self):
         for first in range(4):
