@@ -43,3 +43,9 @@ def orders_of(places):
 def other_places(size, lot):
     """The tuple of the places below size that are not in the lot."""
     return tuple([place for place in range(size) if place not in lot])
+
+
+def classes_by(wide, step, many):
+    """In each of so many runs of wide places, the lots of those that follow one another by this step."""
+    starts = [at * wide for at in range(many)]
+    return tuple([tuple(range(start + rest, start + wide, step)) for start in starts for rest in range(step)])

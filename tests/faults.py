@@ -5,7 +5,7 @@ Each function tells the first entry of the list of a checker that applies, None 
 
 from itertools import combinations
 
-from helpers import cut, places, sums_by_all, told_by_count, words_by_all
+from helpers import cut, places, spanned, sums_by_all, told_by_count, words_by_all
 
 
 class Small:
@@ -36,6 +36,13 @@ class Small:
 
     def apart(self):
         return min((len(places(word)) for word in self.words if any(word)), default=None)
+
+    def price_lot(self):
+        """On how many places words may be alike by the price, None without one."""
+        fewest = [self.fewest(place) for place in range(self.size)]
+        if self.told == 0 or None in fewest:
+            return None
+        return self.told - 2 + -(-self.told // max(1, *fewest))
 
     def told_back(self, lost):
         return tuple(place for place in lost if any(
@@ -126,6 +133,43 @@ def loss_fault(small, lost, thing):
                 return ('kept', at)
         else:
             return ('entry', at)
+    return None
+
+
+def lot_fault(small, thing):
+    if not is_form(thing, 'price', 3) or type(thing[1]) is not tuple or type(thing[2]) is not tuple:
+        return ('shape', -1)
+    _, lot, signs = thing
+    if not small.is_lot(lot):
+        return ('lot', -1)
+    if len(lot) < small.price_lot():
+        return ('few', -1)
+    if not small.is_word(signs) or not any(signs):
+        return ('signs', -1)
+    there = [place for place in lot if signs[place]]
+    return ('there', there[0]) if there else None
+
+
+def nought_fault(small, base, thing):
+    """Base are the base words of the book."""
+    if not is_form(thing, 'noughts', 3) or type(thing[1]) is not tuple or type(thing[2]) is not tuple:
+        return ('shape', -1)
+    _, numbers, used = thing
+    if not used:
+        return ('shape', -1)
+    if len(numbers) != small.size:
+        return ('many', -1)
+    for at, number in enumerate(numbers):
+        if type(number) is not int or not 1 <= number < small.prime or number in numbers[:at]:
+            return ('number', at)
+    for at, exponent in enumerate(used):
+        if type(exponent) is not int or not 0 <= exponent < small.size or (at and exponent <= used[at - 1]):
+            return ('used', at)
+    rows = [tuple(number ** exponent % small.prime for number in numbers) for exponent in used]
+    made = set(spanned(small.prime, small.size, rows))
+    for at, word in enumerate(base):
+        if word not in made:
+            return ('word', at)
     return None
 
 

@@ -116,6 +116,11 @@ def by_powers(prime, size, told):
     return (prime, size, base_words((prime, size, rows)))
 
 
+def power_rows(prime, numbers, used):
+    """The powers of the numbers with each of these exponents."""
+    return [tuple(number ** exponent % prime for number in numbers) for exponent in used]
+
+
 def all_books(prime, size):
     """Books of this prime and size with all words that there can be, each with few sums."""
     ones = [row for row in product(range(prime), repeat=size) if any(row) and row[places(row)[0]] == 1]

@@ -33,6 +33,13 @@ NAMES = {
     'mendclasses': ['Loss', 'Burst'],
     'price': ['price_of', 'few_lot', 'is_best'],
     'lotpapers': ['lot_paper'],
+    'lotchecker': ['lets_lot'],
+    'powers': [
+        'primitive_of', 'class_numbers', 'powers_used', 'powers_places', 'powers_groups', 'powers_book'],
+    'nested': ['nested_used', 'nested_groups', 'nested_book'],
+    'crossed': ['crossed_used', 'crossed_groups', 'crossed_book'],
+    'powerclasses': ['Powered'],
+    'noughtchecker': ['lets_noughts'],
 }
 
 

@@ -5,11 +5,11 @@ import unittest
 from copy import deepcopy
 from itertools import combinations
 
-from helpers import EVEN, FREE, LATE, NOT_BOOKS, ODD, PAIRS, Raising
+from helpers import BIG, EVEN, FREE, LATE, NOT_BOOKS, ODD, PAIRS, Raising
 from mendfew import (
     apartchecker, apartness, apartpapers, bookchanges, bookchecker, bookparts, bookreadings, booktexts,
-    fewchecker, fewness, fewpapers, goings, kinds, likeness, losschecker, losses, losspapers, lotpapers,
-    mending, price, readings)
+    crossed, fewchecker, fewness, fewpapers, goings, kinds, likeness, losschecker, losses, losspapers,
+    lotchecker, lotpapers, mending, nested, noughtchecker, powers, price, readings)
 from mendfew.errors import InvalidPaper
 
 #: for each function of the interface, arguments by name, in their order, that it accepts
@@ -78,6 +78,20 @@ CALLS = [
     (price.few_lot, {'book': EVEN}),
     (price.is_best, {'book': EVEN}),
     (lotpapers.lot_paper, {'book': EVEN}),
+    (lotchecker.lets_lot, {'book': EVEN, 'thing': ('price', (2,), (1, 2, 0))}),
+    (powers.primitive_of, {'prime': 13}),
+    (powers.class_numbers, {'prime': 13, 'wide': 4, 'many': 2}),
+    (powers.powers_used, {'few': 2, 'told': 4}),
+    (powers.powers_places, {'prime': 7, 'few': 2, 'many': 2}),
+    (powers.powers_groups, {'few': 2, 'many': 2}),
+    (powers.powers_book, {'prime': 7, 'few': 2, 'many': 2, 'told': 3}),
+    (nested.nested_used, {'few': 1, 'wide': 4, 'inner': 3, 'many': 2}),
+    (nested.nested_groups, {'prime': 13, 'few': 1, 'wide': 4, 'many': 2}),
+    (nested.nested_book, {'prime': 13, 'few': 1, 'wide': 4, 'inner': 3, 'many': 1, 'told': 2}),
+    (crossed.crossed_used, {'one': 2, 'other': 3, 'many': 1}),
+    (crossed.crossed_groups, {'one': 2, 'other': 3, 'many': 1}),
+    (crossed.crossed_book, {'prime': 7, 'one': 2, 'other': 3, 'many': 1, 'told': 2}),
+    (noughtchecker.lets_noughts, {'book': (7, 2, ((1, 1),)), 'thing': ('noughts', (1, 2), (0, 1))}),
 ]
 
 #: those that return for each value whether it is one; the other ones raise InvalidPaper
@@ -100,7 +114,19 @@ WRONG = {
 }
 
 
-def wrong_for(name):
+#: modules of which all parameters are integers; more than ODD is wrong, for those above
+COUNTED = {
+    powers: {'prime': [1, 4, 9, -7, 1000003, BIG], 'wide': [5, 7, 24, BIG], 'few': [], 'many': [], 'told': []},
+    nested: {'prime': [1, 4, 9, -7, 1000003, BIG], 'few': [], 'wide': [1, 3, 7], 'inner': [5, 6, BIG],
+             'many': [], 'told': []},
+    crossed: {'prime': [1, 4, 9, -7, 1000003, BIG], 'one': [1], 'other': [1, 2, 4, 6], 'many': [], 'told': []},
+}
+
+
+def wrong_for(function, name):
+    for module, more in COUNTED.items():
+        if function.__module__ == module.__name__ and name in more:
+            return [value for value in ODD if value != BIG] + [0, -2, '2', (2,), [2]] + more[name]
     if name in BOOK_NAMES:
         return NOT_BOOKS
     if name == 'text':
@@ -134,7 +160,7 @@ class ParametersTest(Raising, unittest.TestCase):
             for name in good:
                 if judged(name):
                     continue
-                for value in wrong_for(name):
+                for value in wrong_for(function, name):
                     before = deepcopy(value)
                     self.not_usable(name, result, function, **{**good, name: value})
                     self.assertEqual(value, before)
@@ -144,8 +170,8 @@ class ParametersTest(Raising, unittest.TestCase):
             for first, second in combinations(good, 2):
                 if judged(first):
                     continue
-                late = ODD if judged(second) else wrong_for(second)
-                for value, more in zip(wrong_for(first), late):
+                late = ODD if judged(second) else wrong_for(function, second)
+                for value, more in zip(wrong_for(function, first), late):
                     self.not_usable(first, result, function, **{**good, first: value, second: more})
 
     def test_things_are_judged(self):
