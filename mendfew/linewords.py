@@ -7,11 +7,16 @@ from mendfew.kinds import is_prime
 MOST_DIGITS = 60
 
 
+def is_number_word(word):
+    """Whether the word writes a number, however great."""
+    if not (word.isascii() and word.isdigit()):
+        return False
+    return word == "0" or word[0] != "0"
+
+
 def number_in(word):
-    """The number that the word writes, None if it writes none."""
-    if not (word.isascii() and word.isdigit()) or len(word) > MOST_DIGITS:
-        return None
-    if word[0] == "0" and len(word) > 1:
+    """The number that the word writes, None if it writes none, or has too many digits."""
+    if not is_number_word(word) or len(word) > MOST_DIGITS:
         return None
     return int(word)
 
@@ -22,17 +27,28 @@ def first_word_read(words, first, line):
         raise InvalidText(line, 0)
 
 
-def numbers_read(words, start, many, below, line):
-    """The tuple of so many numbers below another one that the words from start on write."""
+def no_more_read(words, many, line):
+    """Raises InvalidText if the line has more than so many words."""
+    if len(words) > many:
+        raise InvalidText(line, many)
+
+
+def some_numbers_read(words, start, least, most, below, line):
+    """The tuple of the numbers below another one, so many at least and most, that the words write."""
     numbers = []
     for field in range(start, len(words)):
         number = number_in(words[field])
-        if len(numbers) == many or number is None or number >= below:
+        if len(numbers) == most or number is None or number >= below:
             raise InvalidText(line, field)
         numbers.append(number)
-    if len(numbers) < many:
+    if len(numbers) < least:
         raise InvalidText(line, len(words))
     return tuple(numbers)
+
+
+def numbers_read(words, start, many, below, line):
+    """The tuple of just so many of them."""
+    return some_numbers_read(words, start, many, many, below, line)
 
 
 def head_read(text, line):
@@ -43,8 +59,7 @@ def head_read(text, line):
         raise InvalidText(line, 1)
     if len(words) == 2 or not is_size(number_in(words[2])):
         raise InvalidText(line, 2)
-    if len(words) > 3:
-        raise InvalidText(line, 3)
+    no_more_read(words, 3, line)
     return (number_in(words[1]), number_in(words[2]))
 
 

@@ -1,7 +1,6 @@
 """Papers of which lost places are told back."""
 
 from mendfew.losses import words_within
-from mendfew.lots import other_places
 from mendfew.rows import bound_rows, bound_within
 from mendfew.usable import want_book, want_lost
 
@@ -25,8 +24,10 @@ def loss_entry(book, lost, place):
 
 
 def telling_sum(book, lost, place):
-    """A sum of the book that has this place as its only lost one; there is one."""
+    """A sum of the book that has this place, and no other one that is lost; None if there is none."""
     prime, size, sums = book
-    told_by = sorted([place, *other_places(size, lost)])
-    within = bound_within(prime, size, bound_rows(prime, size, sums), told_by)
-    return [numbers for numbers in within if numbers[place] != 0][0]
+    told_by = [other for other in range(size) if other == place or other not in lost]
+    for numbers in bound_within(prime, size, bound_rows(prime, size, sums), told_by):
+        if numbers[place] != 0:
+            return numbers
+    return None

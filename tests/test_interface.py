@@ -40,6 +40,13 @@ NAMES = {
     'crossed': ['crossed_used', 'crossed_groups', 'crossed_book'],
     'powerclasses': ['Powered'],
     'noughtchecker': ['lets_noughts'],
+    'counting': ['losses_by_size', 'goings_by_size'],
+    'liveevents': ['is_event'],
+    'lives': ['Live', 'Careful', 'rehearsed'],
+    'livelogs': ['is_story', 'replayed'],
+    'livetexts': ['event_line', 'story_lines'],
+    'livereadings': ['read_event', 'read_story'],
+    'desks': ['Desk'],
 }
 
 

@@ -24,13 +24,13 @@ AT_ONCE = ('zip', 'enumerate', 'reversed', 'range', 'map')
 TAKERS = ('list', 'tuple', 'dict', 'sorted', 'sum', 'min', 'max', 'any', 'all')
 STATEMENTS = (
     ast.Assign, ast.If, ast.While, ast.For, ast.Return, ast.Break, ast.Continue, ast.Pass, ast.Raise,
-    ast.Expr, ast.FunctionDef, ast.ClassDef, ast.ImportFrom)
+    ast.Expr, ast.FunctionDef, ast.ClassDef, ast.ImportFrom, ast.Try, ast.With)
 BARRED = (
     'register', 'mro', 'elements', 'open', 'input', 'law', 'version_info', 'with_traceback', 'add_note',
     'eval', 'exec', 'getattr', 'setattr', 'globals', 'locals', 'vars', 'type', 'typing', 'enum', 'dataclass')
 SPECIAL = set(
     '__init__ __eq__ __str__ __len__ __call__ __iter__ __add__ __sub__ __and__ __contains__ '
-    '__getitem__'.split())
+    '__getitem__ __iadd__ __enter__ __exit__'.split())
 
 
 def nodes(kind):
@@ -201,6 +201,35 @@ class LanguageTest(unittest.TestCase):
                     self.assertNotIn(node.id, told, (name, node.lineno))
                 if isinstance(node, ast.arg):
                     self.assertNotIn(node.arg, told, (name, node.lineno))
+
+    def test_handlers_name_errors_of_the_package(self):
+        own = {node.name for node in TREES['errors'].body if isinstance(node, ast.ClassDef)}
+        for name, node in nodes(ast.Try):
+            self.assertEqual(node.finalbody, [], (name, node.lineno))
+            for handler in node.handlers:
+                self.assertIn(handler.type.id, own, (name, node.lineno))
+
+    def test_the_end_of_a_with_assigns_attributes_alone(self):
+        for name, node in nodes(ast.FunctionDef):
+            if node.name == '__exit__':
+                self.assertEqual([part.arg for part in node.args.args], ['self', 'kind', 'value', 'trace'])
+                for part in node.body:
+                    self.assertIsInstance(part, ast.Assign, name)
+                    for side in (*part.targets, part.value):
+                        self.assertIsInstance(side, ast.Attribute, name)
+
+    def test_methods_and_attributes_have_names_of_their_own(self):
+        methods, stored = {}, {}
+        for name, node in nodes(ast.ClassDef):
+            methods[node.name] = {part.name for part in node.body if isinstance(part, ast.FunctionDef)}
+            stored[node.name] = {
+                part.attr for part in ast.walk(node)
+                if isinstance(part, ast.Attribute) and isinstance(part.ctx, ast.Store)}
+        builtin = {told for kind in (str, int, list, tuple, dict, set, bytes) for told in dir(kind)}
+        for name in methods:
+            self.assertEqual(methods[name] & set().union(*stored.values()), set(), name)
+            self.assertEqual((methods[name] - SPECIAL) & builtin, set(), name)
+            self.assertEqual(stored[name] & (builtin - {'count', 'index', 'title'}), set(), name)
 
     def test_raises(self):
         for name, node in nodes(ast.Raise):

@@ -8,9 +8,12 @@ from itertools import combinations
 from helpers import BIG, EVEN, FREE, LATE, NOT_BOOKS, ODD, PAIRS, Raising
 from mendfew import (
     apartchecker, apartness, apartpapers, bookchanges, bookchecker, bookparts, bookreadings, booktexts,
-    crossed, fewchecker, fewness, fewpapers, goings, kinds, likeness, losschecker, losses, losspapers,
-    lotchecker, lotpapers, mending, nested, noughtchecker, powers, price, readings)
+    counting, crossed, fewchecker, fewness, fewpapers, goings, kinds, likeness, liveevents, livelogs,
+    livereadings, livetexts, losschecker, losses, losspapers, lotchecker, lotpapers, mending, nested,
+    noughtchecker, powers, price, readings)
 from mendfew.errors import InvalidPaper
+
+STORY = (('live', EVEN, (1, 1, 1)), ('lose', 0), ('mark', 'm'))
 
 #: for each function of the interface, arguments by name, in their order, that it accepts
 CALLS = [
@@ -91,6 +94,15 @@ CALLS = [
     (crossed.crossed_used, {'one': 2, 'other': 3, 'many': 1}),
     (crossed.crossed_groups, {'one': 2, 'other': 3, 'many': 1}),
     (crossed.crossed_book, {'prime': 7, 'one': 2, 'other': 3, 'many': 1, 'told': 2}),
+    (counting.losses_by_size, {'book': EVEN}),
+    (counting.goings_by_size, {'book': EVEN, 'sums': ((2, 2, 2),)}),
+    (liveevents.is_event, {'book': EVEN, 'thing': ('lose', 3)}),
+    (livelogs.is_story, {'thing': STORY}),
+    (livelogs.replayed, {'story': STORY}),
+    (livetexts.event_line, {'book': EVEN, 'event': ('lose', 3)}),
+    (livetexts.story_lines, {'story': STORY}),
+    (livereadings.read_event, {'book': EVEN, 'text': 'lose 3'}),
+    (livereadings.read_story, {'lines': ['live', 'book 2 2', 'signs 0 1', 'lose 0']}),
     (noughtchecker.lets_noughts, {'book': (7, 2, ((1, 1),)), 'thing': ('noughts', (1, 2), (0, 1))}),
 ]
 
@@ -110,6 +122,9 @@ WRONG = {
     'lost': [0, 1, (1, 0), (0, 0), (0, 1, 2, 3), (0, 3), [0, 1], (0, True), (False, 1)],
     'sums': [0, (0,), (1, 1, 1), [(1, 1, 1)], ([1, 1, 1],), ((1, 1),), ((0, 0, 0),), ((1, 1, True),)],
     'costs': [0, (), (1, 1), (1, 1, 1, 1), [1, 1, 1], (1, None, 1), (1, 1, -1), (1, True, 1), (1, 1, False)],
+    'event': [0, 'going', ['going'], ('going', 0), ('lose', True), ('write', [0]), ('mark', 'A'), ('widen', (3,))],
+    'story': [0, STORY[0], [STORY[0]], (list(STORY[0]),), STORY[1:], (*STORY, None), (*STORY, ['lose', 1])],
+    'lines': [0, 'live', tuple('live'), ['live\n'], ['live', 0], ['live', ['book 2 2']]],
     'others': [0, (), (1,), (1, 1, 1), (0, 3), [0, 1], (0, True), (False, 1)],
 }
 
@@ -131,8 +146,9 @@ def wrong_for(function, name):
         return NOT_BOOKS
     if name == 'text':
         return [value for value in ODD if not isinstance(value, str)] + [0, 1, (), ('0',)]
-    # None, for the costs, is 1 for each.
-    return [value for value in ODD if value is not None or name != 'costs'] + WRONG[name]
+    # None, for the costs, is 1 for each; a list of strings is one of lines.
+    able = {'costs': [None], 'lines': [[], ['a']]}.get(name, [])
+    return [value for value in ODD if value not in able] + WRONG[name]
 
 
 def judged(name):

@@ -1,5 +1,4 @@
 import unittest
-from math import gcd
 
 from helpers import BIG, ODD, Raising
 from mendfew.apartness import apart_of
@@ -216,6 +215,3 @@ class ConsequencesTest(unittest.TestCase):
             self.assertEqual([apart_of(book), price_of(book), is_best(book)], [apart, apart, True])
             self.assertEqual(lets_noughts(
                 book, ('noughts', powers_places(prime, few, many), powers_used(few, told))), apart)
-
-    def test_what_helpers_take(self):
-        self.assertTrue(all(gcd(number, 13) == 1 for number in class_numbers(13, 12, 1)))
