@@ -189,7 +189,7 @@ class Live:
         return iter(self._now.events)
 
     def __eq__(self, other):
-        return isinstance(other, Live) and self.story() == other.story()
+        return isinstance(other, Live) and self._begun == other._begun and self._now.events == other._now.events
 
     def __iadd__(self, other):
         self.happen(other)

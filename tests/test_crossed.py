@@ -3,7 +3,7 @@ from math import gcd
 
 from helpers import BIG, Raising
 from mendfew.apartness import apart_of
-from mendfew.bookparts import base_words, told_signs
+from mendfew.bookparts import base_words, told_on, told_signs
 from mendfew.crossed import crossed_book, crossed_groups, crossed_used
 from mendfew.fewness import fewest_of
 from mendfew.noughtchecker import lets_noughts
@@ -102,6 +102,9 @@ class CrossedTest(Raising, unittest.TestCase):
         for many in (3, 4, 12, BIG):
             self.not_usable('many', crossed_book, 13, 2, 3, many, 1)
             self.not_usable('many', crossed_book, 13, 2, 3, many, 0)
+        self.not_usable('many', crossed_book, 31, 2, 3, 6, 1)
+        self.not_usable('many', crossed_book, 31, 5, 6, 2, 1)
+        self.assertEqual(crossed_book(31, 2, 3, 5, 1)[1], 30)
         for told in NOT_COUNTS + [5, 6, BIG]:
             self.not_usable('told', crossed_book, 13, 2, 3, 2, told)
         self.not_usable('told', crossed_book, 7, 2, 3, 1, 3)
@@ -121,6 +124,7 @@ class ConsequencesTest(unittest.TestCase):
                 book = crossed_book(prime, one, other, many, told)
                 for lots in crossed_groups(one, other, many):
                     for lot in lots:
+                        self.assertLess(told_on(book, lot), len(lot))
                         for place in lot:
                             self.assertTrue(
                                 is_told_by(book, place, tuple(at for at in lot if at != place)))

@@ -1,3 +1,4 @@
+import re
 import unittest
 from random import Random
 
@@ -194,6 +195,34 @@ class DeskTest(Raising, unittest.TestCase):
                     self.same(desk.say('undo'), event_line(book, live.undo()))
                     model.undo()
                 self.like(desk, live)
+
+    def test_any_row_of_words(self):
+        # Told by their form alone: which rows there are for a book with the prime 2.
+        event = r'(?:(?:lose|mend) (?:0|[1-9][0-9]{0,59})|going|mark [a-z]{1,8}|(?:write|widen)(?: [01]){1,100})'
+        forms = re.compile(
+            rf'{event}|undo|bars {event}|signs|lost|back|marks|mended|sum (?:0|[1-9][0-9]*)|story|since [a-z]{{1,8}}|table')
+        words = [
+            'lose', 'mend', 'going', 'write', 'widen', 'mark', 'undo', 'bars', 'signs', 'lost', 'back', 'marks',
+            'mended', 'sum', 'story', 'since', 'table', '0', '1', '2', '3', '01', 'm', 'M', '', '-', '12', 'live', 'm\n']
+        chance = Random(88)
+        desk, seen = Desk(PAIRS, ONE), {True: 0, False: 0}
+        for count in range(1, 6001):
+            row = ' '.join(chance.choice(words) for _ in range(chance.choice((1, 2, 2, 2, 3, 5))))
+            able = forms.fullmatch(row) is not None
+            try:
+                answer = desk.say(row)
+            except InvalidRow as error:
+                self.same(error.row, row)
+                self.assertFalse(able, row)
+            except (InvalidEvent, NothingToUndo, NotUsable):
+                self.assertTrue(able, row)
+            else:
+                self.assertTrue(able, row)
+                self.assertIs(type(answer), str)
+                self.assertNotEqual(answer, '')
+            seen[able] += 1
+            self.same(desk.counts(), (count, count))
+        self.assertGreater(min(seen.values()), 500)
 
     def test_stories_written_read_replayed_and_led_tell_the_same(self):
         chance = Random(87)

@@ -3,7 +3,7 @@ from itertools import combinations
 
 from helpers import BIG, Raising
 from mendfew.apartness import apart_of
-from mendfew.bookparts import told_signs
+from mendfew.bookparts import told_on, told_signs
 from mendfew.fewness import few_of
 from mendfew.nested import nested_book, nested_groups, nested_used
 from mendfew.noughtchecker import lets_noughts
@@ -124,7 +124,10 @@ class ConsequencesTest(unittest.TestCase):
         for prime, few, wide, inner, many, told in some_books():
             book = nested_book(prime, few, wide, inner, many, told)
             narrow, broad = nested_groups(prime, few, wide, many)
+            for lot in broad:
+                self.assertLessEqual(told_on(book, lot), inner)
             for lot in narrow:
+                self.assertLessEqual(told_on(book, lot), few)
                 for place in lot:
                     self.assertTrue(is_told_by(book, place, tuple(at for at in lot if at != place)))
             if inner == wide:

@@ -2,7 +2,7 @@ import unittest
 
 from helpers import BIG, ODD, Raising
 from mendfew.apartness import apart_of
-from mendfew.bookparts import told_signs
+from mendfew.bookparts import told_on, told_signs
 from mendfew.fewness import few_of
 from mendfew.noughtchecker import lets_noughts
 from mendfew.powerrows import power_below, prime_divisors, primitive_below
@@ -205,6 +205,7 @@ class ConsequencesTest(unittest.TestCase):
             if book[1] < 10:
                 self.assertLessEqual(few_of(book), few)
             for lot in powers_groups(few, many):
+                self.assertLessEqual(told_on(book, lot), few)
                 for place in lot:
                     self.assertTrue(is_told_by(book, place, tuple(at for at in lot if at != place)))
 
